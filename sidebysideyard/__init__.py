@@ -1,0 +1,1 @@
+"""Two texts laid side by side, sentence by sentence."""
