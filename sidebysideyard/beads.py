@@ -1,6 +1,6 @@
 """The calls on two texts that are laid side by side, and what they answer."""
 
-from sidebysideyard.layings import Sentence, Yard, bead_keeps, kind_of, sizes_of
+from sidebysideyard.layings import Sentence, Yard, bead_keeps, kind_of, sizes_of, spans_of
 
 MOST_SENTENCES = 14
 MOST_ANCHORS = 4
@@ -10,8 +10,8 @@ MOST_WEIGHT = 99
 MOST = 999
 
 # By a call's number: how many plain numbers it has, and whether a row comes behind them.
-PLAIN_NUMBERS = (9, 2, 2, 2, 0, 0)
-HAS_ROW = (False, True, False, False, False, True)
+PLAIN_NUMBERS = (9, 2, 2, 2, 0, 0, 2, 2, 3, 2, 0)
+HAS_ROW = (False, True, False, False, False, True, False, False, True, False, False)
 
 
 class Unfit(Exception):
@@ -19,11 +19,15 @@ class Unfit(Exception):
 
 
 class NotThere(Exception):
-    """Answered as -2: there is no such sentence, or the pair is not fixed."""
+    """Answered as -2: there is no such text or sentence, or the pair is not fixed."""
 
 
 class AgainstFixed(Exception):
     """Answered as -4: the pair is fixed already, or a laying does not keep a fixed pair."""
+
+
+class NoRoom(Exception):
+    """Answered as -5: the text has as many sentences as it may have."""
 
 
 class NoLaying(Exception):
@@ -60,6 +64,8 @@ def answer_or_refusal(yard, number, plain, row):
         return [-2]
     except AgainstFixed:
         return [-4]
+    except NoRoom:
+        return [-5]
     except NoLaying:
         return [-6]
 
@@ -76,7 +82,17 @@ def answer(yard, number, plain, row):
         return free_pair(yard, plain[0], plain[1])
     if number == 4:
         return how_laid(yard)
-    return cost_of_beads(yard, row)
+    if number == 5:
+        return cost_of_beads(yard, row)
+    if number == 6:
+        return try_pair(yard, plain[0], plain[1])
+    if number == 7:
+        return bead_of(yard, plain[0], plain[1])
+    if number == 8:
+        return put_sentence(yard, plain[0], plain[1], plain[2], row)
+    if number == 9:
+        return take_sentence(yard, plain[0], plain[1])
+    return shown(yard)
 
 
 def set_costs(yard, kind_costs, share, weight, anchor_price):
@@ -126,14 +142,19 @@ def fit_sentence(length, anchors):
 
 def fix_pair(yard, i, j):
     """The call fix."""
-    if i >= len(yard.first) or j >= len(yard.second):
-        raise NotThere()
+    refuse_if_not_there(yard, i, j)
     if (i, j) in yard.fixed:
         raise AgainstFixed()
     fixed = yard.fixed + [(i, j)]
     laying = laying_told(yard, fixed)
     yard.fixed = fixed
     return [laying[0]]
+
+
+def refuse_if_not_there(yard, i, j):
+    """Refuses a pair that lacks its sentence of the first text or of the second."""
+    if i >= len(yard.first) or j >= len(yard.second):
+        raise NotThere()
 
 
 def free_pair(yard, i, j):
@@ -145,7 +166,7 @@ def free_pair(yard, i, j):
 
 
 def how_laid(yard):
-    """The call lay."""
+    """The call lay, and what put and take answer."""
     much, kinds = laying_told(yard, yard.fixed)
     return [much, len(kinds)] + sizes_of(kinds)
 
@@ -180,3 +201,51 @@ def cost_of_beads(yard, row):
     if not kept:
         raise AgainstFixed()
     return [much]
+
+
+def try_pair(yard, i, j):
+    """The call pair; a pair that is fixed already may be asked for, too."""
+    refuse_if_not_there(yard, i, j)
+    now = laying_told(yard, yard.fixed)[0]
+    then = laying_told(yard, yard.fixed + [(i, j)])[0]
+    return [then, then - now]
+
+
+def bead_of(yard, side, sentence):
+    """The call bead."""
+    if side > 1 or sentence >= len(yard.text_at(side)):
+        raise NotThere()
+    spans = spans_of(laying_told(yard, yard.fixed)[1])
+    which = 0
+    # Beads stand one behind another, so the first that ends behind the sentence has it.
+    while spans[which][2 * side + 1] <= sentence:
+        which = which + 1
+    return [which] + spans[which]
+
+
+def put_sentence(yard, side, place, length, anchors):
+    """The call put; it is done even if there is no laying then."""
+    sentence = fit_sentence(length, anchors)
+    many = len(yard.text_at(side))
+    if place > many:
+        raise Unfit()
+    if many == MOST_SENTENCES:
+        raise NoRoom()
+    yard.put_in(side, place, sentence)
+    return how_laid(yard)
+
+
+def take_sentence(yard, side, sentence):
+    """The call take; it is done even if there is no laying then."""
+    if sentence >= len(yard.text_at(side)):
+        raise NotThere()
+    yard.take_out(side, sentence)
+    return how_laid(yard)
+
+
+def shown(yard):
+    """The call shows."""
+    numbers = [len(yard.first), len(yard.second), len(yard.fixed)]
+    for pair in yard.fixed:
+        numbers.extend(pair)
+    return numbers

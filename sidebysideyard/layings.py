@@ -22,7 +22,25 @@ class Yard:
         self.anchor_price = 10
         self.first = []
         self.second = []
+        # Pairs of a sentence of the first text and one of the second, in the order in which they were fixed.
         self.fixed = []
+
+    def text_at(self, side):
+        """The first text at side 0, the second at side 1."""
+        if side == 0:
+            return self.first
+        return self.second
+
+    def put_in(self, side, place, sentence):
+        """Puts a sentence in, with so many ahead of it; fixed pairs go along with their sentences."""
+        self.text_at(side).insert(place, sentence)
+        self.fixed = [moved(pair, side, place, 1) for pair in self.fixed]
+
+    def take_out(self, side, place):
+        """Takes out the sentence that has so many ahead of it, and its fixed pairs; the others go along."""
+        self.text_at(side).pop(place)
+        others = [pair for pair in self.fixed if pair[side] != place]
+        self.fixed = [moved(pair, side, place, -1) for pair in others]
 
     def bead_cost(self, kind, i, j):
         """What a bead of this kind costs that begins at sentence i of the first text, j of the second."""
@@ -87,6 +105,15 @@ def bead_keeps(fixed, kind, i, j):
     return True
 
 
+def moved(pair, side, place, steps):
+    """The pair, its sentence of this side so many steps on if it stands at the place or behind it."""
+    if pair[side] < place:
+        return pair
+    if side == 0:
+        return (pair[0] + steps, pair[1])
+    return (pair[0], pair[1] + steps)
+
+
 def kind_of(many, others):
     """The kind that puts so many sentences with so many others; None if no kind does."""
     for kind, size in enumerate(KINDS):
@@ -102,3 +129,17 @@ def sizes_of(kinds):
         sizes.append(KINDS[kind][0])
         sizes.append(KINDS[kind][1])
     return sizes
+
+
+def spans_of(kinds):
+    """Of every bead: from, to (the first one behind it) of the first text, likewise of the second."""
+    spans = []
+    i = 0
+    j = 0
+    for kind in kinds:
+        behind_i = i + KINDS[kind][0]
+        behind_j = j + KINDS[kind][1]
+        spans.append([i, behind_i, j, behind_j])
+        i = behind_i
+        j = behind_j
+    return spans

@@ -3,6 +3,9 @@
 from sidebysideyard.beads import answers
 
 LAY = [4]
+SHOWS = [10]
+# The greatest number that is handed in.
+HUGE = 4294967295
 
 
 def costs(kinds=(0, 5, 5, 8, 12, 12), share=100, weight=1, anchor=10):
@@ -35,9 +38,35 @@ def cost(*beads):
     return [5, len(numbers), *numbers]
 
 
+def try_pair(i, j):
+    return [6, i, j]
+
+
+def bead_of(side, sentence):
+    return [7, side, sentence]
+
+
+def put(side, place, length, *anchors):
+    return [8, side, place, length, len(anchors), *anchors]
+
+
+def take(side, sentence):
+    return [9, side, sentence]
+
+
 def laid(much, *beads):
     """How it is laid, as lay answers it."""
     return [much, len(beads)] + [number for bead in beads for number in bead]
+
+
+def shown(many, others, *fixed):
+    """What shows answers; the fixed pairs are tuples."""
+    return [many, others, len(fixed)] + [number for one in fixed for number in one]
+
+
+def no_laying():
+    """Calls behind which no laying keeps all fixed pairs: the first text has 3 sentences, the second 1."""
+    return texts(plain(1, 1), plain(1)), fix(0, 0), fix(1, 0), put(0, 1, 5)
 
 
 def ask(*calls):

@@ -2,10 +2,9 @@
 
 import unittest
 
-from tests.lines import LAY, ask, cost, costs, fix, free, laid, last, plain, texts
+from tests.lines import HUGE, LAY, ask, cost, costs, fix, free, laid, last, plain, texts
 
 THREE_AND_TWO = texts([(10, 1), (20,), (30, 2)], [(30, 1), (33,)])
-HUGE = 4294967295
 
 
 class Cost(unittest.TestCase):

@@ -2,9 +2,9 @@
 
 import unittest
 
-from tests.lines import LAY, ask, cost, costs, fix, free, laid, last, plain, texts
+from tests.lines import HUGE, LAY, ask, cost, costs, fix, free, laid, last, plain, texts
 
-BEYOND = (1000, 4294967295)
+BEYOND = (1000, HUGE)
 
 
 class Costs(unittest.TestCase):

@@ -2,10 +2,11 @@
 
 import unittest
 
-from tests.lines import LAY, ask, cost, costs, fix, free, laid, last, plain, texts
+from tests.lines import (
+    HUGE, LAY, SHOWS, ask, cost, costs, fix, free, laid, last, no_laying, plain, put, shown, texts,
+)
 
 TWO_AND_TWO = texts(plain(10, 20), plain(10, 20))
-HUGE = 4294967295
 
 
 class Fix(unittest.TestCase):
@@ -111,6 +112,16 @@ class Free(unittest.TestCase):
     def test_all_is_as_it_was_after_a_refusal(self):
         told = ask(TWO_AND_TWO, fix(0, 1), free(0, 0), LAY, cost((1, 1), (1, 1)), fix(0, 1))
         self.assertEqual(told[2:], [[-2], laid(8, (2, 2)), [-4], [-4]])
+
+    def test_no_laying_then_but_it_is_done(self):
+        four_pairs = TWO_AND_TWO, fix(0, 0), fix(0, 1), fix(1, 0), fix(1, 1), put(0, 1, 5)
+        told = ask(*four_pairs, free(2, 0), SHOWS, LAY, free(2, 0), free(2, 1), SHOWS)
+        self.assertEqual(told[5:9], [[-6], [-6], shown(3, 2, (0, 0), (0, 1), (2, 1)), [-6]])
+        self.assertEqual(told[9:], [[-2], [8 + 15 + 12], shown(3, 2, (0, 0), (0, 1))])
+
+    def test_not_fixed_while_there_is_no_laying(self):
+        told = ask(*no_laying(), free(1, 0), free(3, 0), SHOWS, free(0, 0), SHOWS)
+        self.assertEqual(told[4:], [[-2], [-2], shown(3, 1, (0, 0), (2, 0)), [22], shown(3, 1, (2, 0))])
 
 
 if __name__ == "__main__":

@@ -2,7 +2,7 @@
 
 import unittest
 
-from tests.lines import LAY, ask, cost, fix, free, laid, last, plain, texts
+from tests.lines import HUGE, LAY, ask, cost, fix, free, laid, last, plain, texts
 
 
 class Texts(unittest.TestCase):
@@ -33,13 +33,13 @@ class Texts(unittest.TestCase):
 
     def test_length_of_999_and_no_more(self):
         self.assertEqual(ask(texts(plain(0, 999), plain(999))), [[2, 1]])
-        for beyond in (1000, 4294967295):
+        for beyond in (1000, HUGE):
             self.assertEqual(ask(texts(plain(1, beyond), plain(1))), [[-1]])
             self.assertEqual(ask(texts(plain(1), plain(1, beyond))), [[-1]])
 
     def test_anchor_of_999_and_no_more(self):
         self.assertEqual(ask(texts([(1, 0, 999)], [(1, 999)])), [[1, 1]])
-        for beyond in (1000, 4294967295):
+        for beyond in (1000, HUGE):
             for place in range(4):
                 anchors = [0] * 4
                 anchors[place] = beyond
